@@ -1,0 +1,1 @@
+"""Exact area coverage of polygons in pixels."""
