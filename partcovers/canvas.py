@@ -7,10 +7,15 @@ ADD_CONTOUR = 2
 CLEAR = 3
 COVERAGE = 4
 AREA = 5
+TOTAL_COVERAGE = 6
+FILL = 7
+DRAW_LINE = 8
+ROW = 9
+REVERSE = 10
 
 
 class UnknownCall(ValueError):
-    """A call whose number is none of those that are answered."""
+    """A call whose number is none of an operation."""
 
 
 def call_length(calls, place):
@@ -22,6 +27,10 @@ def call_length(calls, place):
         return 2 + calls[place + 1]
     if operation == COVERAGE:
         return 3
+    if operation == FILL or operation == ROW:
+        return 2
+    if operation == DRAW_LINE:
+        return 6
     return 1
 
 
@@ -38,6 +47,16 @@ def answer_to(session, call):
         return session.coverage(call[1], call[2])
     if operation == AREA:
         return session.area()
+    if operation == TOTAL_COVERAGE:
+        return session.total_coverage()
+    if operation == FILL:
+        return session.fill(call[1])
+    if operation == DRAW_LINE:
+        return session.draw_line(call[1], call[2], call[3], call[4], call[5])
+    if operation == ROW:
+        return session.row(call[1])
+    if operation == REVERSE:
+        return session.reverse_contours()
     raise UnknownCall(f"no call has the number {operation}")
 
 

@@ -23,6 +23,11 @@ def pixel_box(x, y):
     return Box(UNITS * x, UNITS * y, UNITS * x + UNITS, UNITS * y + UNITS)
 
 
+def picture_box(width, height):
+    """All pixels of a picture together."""
+    return Box(0, 0, UNITS * width, UNITS * height)
+
+
 def edges_of(contour):
     """Each edge as a pair of its corners; the closing edge comes first."""
     return [(contour[k - 1], contour[k]) for k in range(len(contour))]

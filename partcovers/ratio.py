@@ -22,6 +22,11 @@ def negated(fraction):
     return (-fraction[0], fraction[1])
 
 
+def nearest(numerator, denominator):
+    """The whole number nearest to the fraction, of two the greater one; the denominator is positive."""
+    return (2 * numerator + denominator) // (2 * denominator)
+
+
 def total(fractions):
     """The sum of fractions, in lowest terms."""
     numerator = 0

@@ -32,6 +32,26 @@ def area():
     return [5]
 
 
+def total_coverage():
+    return [6]
+
+
+def fill(colour):
+    return [7, colour]
+
+
+def draw_line(x0, y0, x1, y1, colour):
+    return [8, x0, y0, x1, y1, colour]
+
+
+def row(y):
+    return [9, y]
+
+
+def reverse():
+    return [10]
+
+
 def ask(*calls):
     """The answer to each call of one session."""
     assert 1 <= len(calls) <= MOST_CALLS
@@ -49,6 +69,14 @@ def ask(*calls):
 
 def last(*calls):
     return ask(*calls)[-1]
+
+
+def ask_rows(height, *calls):
+    """The colours of each row behind the calls, each row asked with its width."""
+    told = ask(*calls, *[row(y) for y in range(height)])[len(calls):]
+    for answer in told:
+        assert answer[0] == len(answer) - 1
+    return [answer[1:] for answer in told]
 
 
 def ask_pixels(width, height, contours):

@@ -3,10 +3,14 @@
 import unittest
 
 import asking
-from asking import GREATEST, add, area, ask, begin, clear, coverage
+from asking import (GREATEST, add, area, ask, begin, clear, coverage, draw_line, fill, reverse, row,
+                    total_coverage)
 from partcovers.canvas import UnknownCall, answers
 
 SQUARE = (0, 0, 16, 0, 16, 16, 0, 16)
+ALL_CALLS = (begin(2, 2, 7) + add(*SQUARE) + add(1, 2, 3) + coverage(0, 0) + coverage(9, 9) + total_coverage() + fill(9)
+             + fill(256) + draw_line(1, 1, 0, 0, 5) + draw_line(1001, 0, 0, 0, 5) + row(1) + row(2) + reverse()
+             + area() + clear() + area())
 
 
 class LockedList(list):
@@ -31,27 +35,43 @@ class FormTest(unittest.TestCase):
         self.assertEqual(answers([3]), [1, 0])
         self.assertEqual(answers([4, 0, 0]), [3, 0, 0, 1])
         self.assertEqual(answers([5]), [3, 0, 0, 1])
+        self.assertEqual(answers([6]), [3, 0, 0, 1])
+        self.assertEqual(answers([7, 255]), [1, 0])
+        self.assertEqual(answers([8, 0, 0, 2, 1, 255]), [2, 3, 1])
+        self.assertEqual(answers([9, 0]), [2, 1, 0])
+        self.assertEqual(answers([10]), [1, 0])
+
+    def test_all_calls(self):
+        self.assertEqual(answers(ALL_CALLS), [
+            1, 0, 1, 1, 1, -3, 3, 0, 1, 1, 1, -1, 3, 0, 1, 1, 1, 1, 1, -1, 2, 2, 2, 1, -1, 3, 2, 7, 5, 1, -1, 1, 1,
+            3, 0, -1, 1, 1, 0, 3, 0, 0, 1])
 
     def test_an_error_is_its_code_alone(self):
-        calls = begin(0, 1) + add(1) + add() + coverage(1, 0) + add(*([0] * 122))
-        self.assertEqual(answers(calls), [1, -1, 1, -3, 1, -1, 1, -1, 1, -5])
+        calls = begin(0, 1) + add(1) + add() + coverage(1, 0) + add(*([0] * 122)) + fill(256) + row(1)
+        self.assertEqual(answers(calls + draw_line(0, 0, 0, 0, 256)),
+                         [1, -1, 1, -3, 1, -1, 1, -1, 1, -5, 1, -1, 1, -1, 1, -1])
 
     def test_numbers_of_a_call_are_not_taken_for_calls(self):
         parts = ask(add(5, 5, 5, 5, 5, 5), coverage(5, 5), begin(3, 3, 3), coverage(2, 2), add(3, 3, 3), area())
         self.assertEqual(parts, [[1], [-1], [0], [0, 0, 1], [-3], [0, 0, 1]])
+        self.assertEqual(ask(draw_line(8, 9, 10, 7, 6), fill(8), row(9), fill(7), draw_line(1, 1, 1, 1, 10), row(10)),
+                         [[3, 0], [0], [-1], [0], [1, 0], [-1]])
 
     def test_answers_are_plain_whole_numbers_in_a_list(self):
-        told = answers(begin(1, 1) + add(*SQUARE) + area() + coverage(0, 0) + coverage(9, 9))
+        told = answers(ALL_CALLS)
         self.assertIs(type(told), list)
         self.assertEqual({type(number) for number in told}, {int})
 
     def test_sixty_calls(self):
         self.assertEqual(answers([3] * 60), [1, 0] * 60)
+        self.assertEqual(answers([10] * 60), [1, 0] * 60)
+        self.assertEqual(answers([7, 3] * 60), [1, 0] * 60)
 
     def test_greatest_numbers_and_longest_list(self):
         big = GREATEST
         calls = [begin(big, big, big), coverage(big, big), add(*([big] * 1024)), add(*([0] * 1024)), add(*([0] * 1023))]
         self.assertEqual(ask(*calls), [[-1], [-1], [-1], [-5], [-3]])
+        self.assertEqual(ask(fill(big), draw_line(big, big, big, big, big), row(big)), [[-1], [-1], [-1]])
 
     def test_numbers_beyond_the_unsigned_bound_of_a_word_are_told(self):
         corners = []
@@ -68,27 +88,29 @@ class FormTest(unittest.TestCase):
 
 class NothingKeptTest(unittest.TestCase):
     def test_the_list_is_the_same_afterwards(self):
-        calls = begin(2, 2, 7) + add(*SQUARE) + add(1, 2, 3) + coverage(0, 0) + coverage(9, 9) + clear() + area()
+        calls = list(ALL_CALLS)
         before = list(calls)
         answers(calls)
         self.assertEqual(calls, before)
 
     def test_the_list_is_not_changed_for_a_while_either(self):
-        calls = begin(2, 2, 7) + add(*SQUARE) + add(1, 2, 3) + coverage(0, 0) + coverage(9, 9) + clear() + area()
-        self.assertEqual(answers(LockedList(calls)), answers(calls))
+        self.assertEqual(answers(LockedList(ALL_CALLS)), answers(ALL_CALLS))
 
     def test_a_session_starts_with_one_pixel_and_no_contours(self):
-        self.assertEqual(ask(coverage(0, 0), coverage(1, 0), coverage(0, 1), area(), add(*SQUARE)),
-                         [[0, 0, 1], [-1], [-1], [0, 0, 1], [1]])
+        self.assertEqual(ask(coverage(0, 0), coverage(1, 0), coverage(0, 1), area(), row(0), row(1), reverse(),
+                             total_coverage(), add(*SQUARE)),
+                         [[0, 0, 1], [-1], [-1], [0, 0, 1], [1, 0], [-1], [0], [0, 0, 1], [1]])
 
     def test_two_sessions_do_not_know_of_one_another(self):
-        probe = [coverage(0, 0), coverage(1, 0), coverage(0, 1), area(), add(*SQUARE)]
+        probe = [coverage(0, 0), coverage(1, 0), coverage(0, 1), area(), row(0), row(1), add(*SQUARE)]
         before = ask(*probe)
-        ask(begin(16, 16, 255), add(*SQUARE), add(*([0] * 112)))
+        ask(begin(16, 16, 255), add(*SQUARE), add(*([0] * 112)), fill(9), draw_line(0, 0, 9, 9, 1), reverse())
+        self.assertEqual(ask(*probe), before)
+        ask(draw_line(0, 0, 0, 0, 1), add(*SQUARE))
         self.assertEqual(ask(*probe), before)
 
     def test_the_same_calls_have_the_same_answers(self):
-        calls = begin(2, 1, 3) + add(*SQUARE) + coverage(0, 0) + area()
+        calls = list(ALL_CALLS)
         first = answers(calls)
         kept = list(first)
         second = answers(calls)

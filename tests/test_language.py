@@ -86,6 +86,23 @@ class LanguageTest(unittest.TestCase):
                 self.assertIsNone(alias.asname, name)
                 self.assertIn(alias.name, [getattr(one, "name", None) for one in defined], name)
 
+    def test_no_local_is_called_like_a_class_or_an_import_of_its_file(self):
+        for name, tree in trees().items():
+            taken = {alias.name for node in tree.body if isinstance(node, ast.ImportFrom) for alias in node.names}
+            taken |= {node.name for node in tree.body if isinstance(node, ast.ClassDef)}
+            for node in ast.walk(tree):
+                if isinstance(node, ast.Name) and isinstance(node.ctx, ast.Store):
+                    self.assertNotIn(node.id, taken, (name, node.lineno))
+                elif isinstance(node, ast.arg):
+                    self.assertNotIn(node.arg, taken, (name, node.lineno))
+
+    def test_no_name_is_a_method_and_a_value(self):
+        methods = {node.name for name, one in nodes(ast.ClassDef) for node in one.body
+                   if isinstance(node, ast.FunctionDef)}
+        for name, node in nodes(ast.Attribute):
+            if isinstance(node.ctx, ast.Store):
+                self.assertNotIn(node.attr, methods, (name, node.lineno))
+
     def test_names(self):
         given = set(dir(builtins))
         for name, node in nodes((ast.Name, ast.arg, ast.Attribute, ast.FunctionDef, ast.ClassDef)):

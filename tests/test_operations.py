@@ -1,9 +1,9 @@
-"""begin, add_contour and clear, and the errors of all five calls."""
+"""begin, add_contour and clear, the pixels that coverage is asked for, and the errors of all calls."""
 
 import unittest
 
-from asking import GREATEST, add, area, ask, begin, clear, coverage, last
-from partcovers.session import Session
+from asking import (GREATEST, add, area, ask, ask_rows, begin, clear, coverage, draw_line, fill, last, reverse, row,
+                    total_coverage)
 
 SQUARE = (0, 0, 16, 0, 16, 16, 0, 16)
 TRIANGLE = (0, 0, 16, 0, 16, 16)
@@ -43,14 +43,12 @@ class BeginTest(unittest.TestCase):
         self.assertEqual(parts, [[1], [2], [0], [0, 0, 1], [0, 0, 1], [1]])
 
     def test_all_pixels_have_the_colour(self):
-        session = Session()
-        self.assertEqual(session.rows, [[0]])
-        session.begin(3, 2, 255)
-        self.assertEqual(session.rows, [[255, 255, 255], [255, 255, 255]])
-        session.begin(1, 2, 0)
-        self.assertEqual(session.rows, [[0], [0]])
-        session.begin(2, 2, 256)
-        self.assertEqual(session.rows, [[0], [0]])
+        calls = [begin(3, 2, 255)]
+        self.assertEqual(ask_rows(2, *calls), [[255, 255, 255], [255, 255, 255]])
+        calls.append(begin(1, 2, 0))
+        self.assertEqual(ask_rows(2, *calls), [[0], [0]])
+        calls.append(begin(2, 2, 256))
+        self.assertEqual(ask_rows(2, *calls), [[0], [0]])
 
 
 class AddContourTest(unittest.TestCase):
@@ -126,10 +124,7 @@ class ClearTest(unittest.TestCase):
     def test_it_keeps_the_picture(self):
         self.assertEqual(ask(begin(2, 3), clear(), coverage(1, 2), coverage(2, 0), coverage(0, 3)),
                          [[0], [0], [0, 0, 1], [-1], [-1]])
-        session = Session()
-        session.begin(2, 1, 9)
-        session.clear_contours()
-        self.assertEqual(session.rows, [[9, 9]])
+        self.assertEqual(ask_rows(1, begin(2, 1, 9), clear()), [[9, 9]])
 
 
 class AskedPixelTest(unittest.TestCase):
@@ -160,16 +155,23 @@ class ErrorChangesNothingTest(unittest.TestCase):
         (add(0, 0, 16, 0, 16, 4097), -1), (add(4097, 0, 16, 0, 16, 16), -1), (add(*points(60), 0, 4097), -1),
         (add(*points(54)), -5), (add(*points(512)), -5),
         (coverage(3, 0), -1), (coverage(0, 2), -1), (coverage(GREATEST, GREATEST), -1),
+        (fill(256), -1), (fill(GREATEST), -1),
+        (draw_line(0, 0, 2, 1, 256), -1), (draw_line(0, 0, 2, 1, GREATEST), -1), (draw_line(0, 0, 2, 1001, 1), -1),
+        (draw_line(1001, 0, 0, 0, 1), -1), (draw_line(0, 1001, 0, 0, 1), -1), (draw_line(0, 0, 1001, 0, 1), -1),
+        (draw_line(GREATEST, GREATEST, GREATEST, GREATEST, GREATEST), -1),
+        (row(3), -1), (row(16), -1), (row(GREATEST), -1),
     ]
+    ahead = [begin(3, 2, 5), draw_line(0, 1, 2, 0, 77), add(*SQUARE), add(4, 4, 44, 5, 20, 31), fill(200)]
 
     def probe(self):
         pixels = [coverage(x, y) for x in range(4) for y in range(3)]
-        return pixels + [area(), add(*points(53)), add(*points(3)), clear(), area(), add(*TRIANGLE), area()]
+        return pixels + [row(0), row(1), row(2), total_coverage(), area(), add(*points(53)), add(*points(3)), reverse(),
+                         clear(), area(), add(*TRIANGLE), area()]
 
     def test_picture_and_figure_behind_each_error(self):
-        ahead = [begin(3, 2, 5), add(*SQUARE), add(4, 4, 44, 5, 20, 31)]
+        ahead = self.ahead
         plain = ask(*ahead, *self.probe())[len(ahead):]
-        self.assertEqual(plain[-6:], [[3], [-5], [0], [0, 0, 1], [1], [0, 1, 2]])
+        self.assertEqual(plain[-7:], [[3], [-5], [3], [0], [0, 0, 1], [1], [0, 1, 2]])
         for call, code in self.wrong:
             with self.subTest(call=call):
                 parts = ask(*ahead, call, *self.probe())
@@ -177,10 +179,11 @@ class ErrorChangesNothingTest(unittest.TestCase):
                 self.assertEqual(parts[len(ahead) + 1:], plain)
 
     def test_all_errors_behind_one_another(self):
-        ahead = [begin(3, 2, 5), add(*SQUARE), add(4, 4, 44, 5, 20, 31)]
-        plain = ask(*ahead, *self.probe())[len(ahead):]
-        parts = ask(*ahead, *[call for call, code in self.wrong], *self.probe())[len(ahead):]
-        self.assertEqual(parts, [[code] for call, code in self.wrong] + plain)
+        plain = ask(*self.ahead, *self.probe())[len(self.ahead):]
+        for first in range(0, len(self.wrong), 30):
+            wrong = self.wrong[first:first + 30]
+            parts = ask(*self.ahead, *[call for call, code in wrong], *self.probe())[len(self.ahead):]
+            self.assertEqual(parts, [[code] for call, code in wrong] + plain)
 
     def test_the_first_picture_and_figure_behind_an_error(self):
         for call, code in self.wrong:
@@ -188,19 +191,16 @@ class ErrorChangesNothingTest(unittest.TestCase):
                 # Only too many behind other contours.
                 continue
             with self.subTest(call=call):
-                parts = ask(call, coverage(0, 0), coverage(1, 0), coverage(0, 1), area(), add(*TRIANGLE))
-                self.assertEqual(parts, [[code], [0, 0, 1], [-1], [-1], [0, 0, 1], [1]])
+                parts = ask(call, coverage(0, 0), coverage(1, 0), coverage(0, 1), row(0), row(1), area(), reverse(),
+                            add(*TRIANGLE))
+                self.assertEqual(parts, [[code], [0, 0, 1], [-1], [-1], [1, 0], [-1], [0, 0, 1], [0], [1]])
 
     def test_the_colours_behind_an_error(self):
-        session = Session()
-        session.begin(2, 1, 9)
-        session.begin(3, 3, 256)
-        session.begin(0, 3, 1)
-        session.add_contour([0])
-        session.add_contour([0, 0])
-        session.add_contour(points(61))
-        session.coverage(2, 0)
-        self.assertEqual(session.rows, [[9, 9]])
+        for call, code in self.wrong:
+            if call != add(*points(54)):
+                with self.subTest(call=call):
+                    self.assertEqual(ask_rows(2, begin(3, 2, 9), draw_line(1, 0, 1, 1, 8), call),
+                                     [[9, 8, 9], [9, 8, 9]])
 
 
 if __name__ == "__main__":

@@ -2,7 +2,7 @@
 
 import unittest
 
-from partcovers.ratio import common_divisor, lowest_terms, negated, total
+from partcovers.ratio import common_divisor, lowest_terms, nearest, negated, total
 
 
 class RatioTest(unittest.TestCase):
@@ -22,6 +22,12 @@ class RatioTest(unittest.TestCase):
     def test_negated(self):
         self.assertEqual(negated((3, 2)), (-3, 2))
         self.assertEqual(negated((0, 1)), (0, 1))
+
+    def test_nearest(self):
+        for numerator, denominator, told in ((0, 1, 0), (7, 1, 7), (-7, 1, -7), (1, 3, 0), (2, 3, 1), (1, 2, 1),
+                                             (3, 2, 2), (-1, 2, 0), (-3, 2, -1), (-1, 3, 0), (-2, 3, -1), (10, 4, 3)):
+            with self.subTest(numerator=numerator, denominator=denominator):
+                self.assertEqual(nearest(numerator, denominator), told)
 
     def test_total(self):
         self.assertEqual(total([]), (0, 1))
